@@ -1,0 +1,1 @@
+"""The one record made of several: mergedone.desk.answers answers the calls about one desk."""
