@@ -1,6 +1,6 @@
 """The calls about one desk: read one behind another from a list of numbers, answered in one list."""
 
-from mergedone.state import Desk, Record, SOURCES
+from mergedone.state import Desk, MOST_THING, Record, SOURCES
 
 FIELDS = 0
 RULE = 1
@@ -8,20 +8,32 @@ TRUST = 2
 RECORD = 3
 REMOVE = 4
 CHANGE = 5
+PUT = 6
+WRONG = 7
+PIN = 8
+ONE = 9
+WHY = 10
+CONFLICTS = 11
+FEWEST = 12
 
 # By a call's number: how many whole numbers follow it, ahead of its row if it has one.
-PLAIN_NUMBERS = (1, 2, 0, 3, 1, 3, 2)
+PLAIN_NUMBERS = (1, 2, 0, 3, 1, 3, 2, 2, 3, 1, 2, 1, 2, 0)
 
 MOST_FIELDS = 4
 MOST_RULE = 4
 MOST_TIME = 1000000
-MOST_THING = 4
 MOST_VALUE = 1000
 MOST_RECORDS = 12
 
 NOT_AS_TOLD = -1
 NONE_SUCH = -3
+NOTHING_SAID = -5
 FULL = -6
+
+# How the one record comes to a value.
+BY_NOTHING = 0
+BY_CHOICE = 1
+BY_PIN = 2
 
 
 def set_fields(desk, field_count):
@@ -94,6 +106,79 @@ def put_record(desk, number, thing):
     return earlier
 
 
+def turn_wrong(desk, number, field):
+    if not desk.has_record(number) or not desk.has_field(field):
+        return NONE_SUCH
+    record = desk.records[number]
+    record.field_wrong[field - 1] = not record.field_wrong[field - 1]
+    return 1 if record.field_wrong[field - 1] else 0
+
+
+def set_pin(desk, thing, field, value):
+    if not desk.has_thing(thing) or not desk.has_field(field):
+        return NONE_SUCH
+    if value > MOST_VALUE:
+        return NOT_AS_TOLD
+    earlier = desk.pins.get((thing, field), 0)
+    if value != 0:
+        desk.pins[(thing, field)] = value
+    elif earlier != 0:
+        desk.pins.pop((thing, field))
+    return earlier
+
+
+def one_field(desk, thing, field):
+    if (thing, field) in desk.pins:
+        return [BY_PIN, desk.pins[(thing, field)]]
+    value = desk.chosen(field, desk.numbers_saying(thing, field))
+    if value == 0:
+        return [BY_NOTHING, 0]
+    return [BY_CHOICE, value]
+
+
+def tell_one(desk, thing):
+    if not desk.has_thing(thing):
+        return [NONE_SUCH]
+    told = [len(desk.numbers_of(thing))]
+    for field in range(1, len(desk.rules) + 1):
+        told.extend(one_field(desk, thing, field))
+    return told
+
+
+# A record whose value is not known says nothing, so none says the 0 of a field without a value.
+def tell_why(desk, thing, field):
+    if not desk.has_thing(thing) or not desk.has_field(field):
+        return [NONE_SUCH]
+    value = one_field(desk, thing, field)[1]
+    saying = desk.numbers_saying(thing, field)
+    numbers = [number for number in saying if desk.records[number].says(field) == value]
+    return [len(numbers)] + numbers
+
+
+def tell_conflicts(desk, thing):
+    if not desk.has_thing(thing):
+        return [NONE_SUCH]
+    told = []
+    for field in range(1, len(desk.rules) + 1):
+        spoken = desk.values_said(field, desk.numbers_saying(thing, field))
+        told.append(len(set(spoken)))
+    return told
+
+
+def tell_fewest(desk, thing, field):
+    if not desk.has_thing(thing) or not desk.has_field(field):
+        return [NONE_SUCH]
+    numbers = desk.numbers_saying(thing, field)
+    if len(numbers) == 0:
+        return [NOTHING_SAID]
+    gone = desk.fewest_to_go(field, numbers)
+    return [len(gone)] + gone
+
+
+def tell_counts(desk):
+    return [len(desk.rules)] + desk.rules + desk.trusted + [len(desk.records), len(desk.pins)]
+
+
 def call_end(calls, start):
     kind = calls[start]
     end = start + 1 + PLAIN_NUMBERS[kind]
@@ -117,8 +202,22 @@ def answer(desk, call):
         return [remove_record(desk, call[1])]
     if kind == CHANGE:
         return [change_value(desk, call[1], call[2], call[3])]
-    # A call of another number has no length in PLAIN_NUMBERS: only put, 6, is left here.
-    return [put_record(desk, call[1], call[2])]
+    if kind == PUT:
+        return [put_record(desk, call[1], call[2])]
+    if kind == WRONG:
+        return [turn_wrong(desk, call[1], call[2])]
+    if kind == PIN:
+        return [set_pin(desk, call[1], call[2], call[3])]
+    if kind == ONE:
+        return tell_one(desk, call[1])
+    if kind == WHY:
+        return tell_why(desk, call[1], call[2])
+    if kind == CONFLICTS:
+        return tell_conflicts(desk, call[1])
+    if kind == FEWEST:
+        return tell_fewest(desk, call[1], call[2])
+    # A call of another number has no length in PLAIN_NUMBERS: only counts, 13, is left here.
+    return tell_counts(desk)
 
 
 def answers(calls):

@@ -1,7 +1,7 @@
 import itertools
 import unittest
 
-from helper import MOST, ask, ask_last, change, fields, held, put, record, remove, rule, tell, trust
+from helper import MOST, ask, ask_last, change, fields, held, pin, put, record, remove, rule, tell, trust, wrong
 from mergedone.state import Desk
 
 
@@ -56,8 +56,7 @@ class Fields(unittest.TestCase):
 
     def test_nothing_is_left_on_the_desk(self):
         desk = Desk()
-        tell(desk, rule(1, 4), trust(4, 3, 2, 1), record(1, 1, 1, 7, 8))
-        desk.pins[(1, 1)] = 5
+        tell(desk, rule(1, 4), trust(4, 3, 2, 1), record(1, 1, 1, 7, 8), wrong(1, 1), pin(1, 1, 5))
         self.assertEqual(tell(desk, fields(3)), [0])
         self.assertEqual(held(desk), ([0, 0, 0], [1, 2, 3, 4], [], 0, {}))
 

@@ -1,33 +1,13 @@
 import unittest
 
-from helper import MOST, ask, ask_last, change, fields, held, put, record, remove, rule, tell, trust
+from helper import MOST, Refusals, a_desk, ask, ask_last, change, fields, held, put, record, remove, tell
 from mergedone.state import Desk
-
-
-def a_desk():
-    """A desk on which nothing is as at the beginning; its records are 1, 3 and 4."""
-    desk = Desk()
-    tell(
-        desk, fields(3), rule(1, 4), rule(2, 1), rule(3, 2), trust(2, 4, 1, 3),
-        record(1, 5, 1, 10, 20, 30), record(2, 6, 2, 1, 1, 1),
-        record(3, 7, 0, 0, 1000, 40), record(4, 1000000, 4, 11, 21, 31), remove(2))
-    desk.records[1].field_wrong[1] = True
-    desk.records[3].field_wrong[0] = True
-    desk.pins[(1, 2)] = 77
-    return desk
 
 
 def full_desk():
     desk = Desk()
     tell(desk, *[record(1, 1, 1, 7, 8)] * 12)
     return desk
-
-
-class Refusals(unittest.TestCase):
-    def refused(self, desk, call, number):
-        before = held(desk)
-        self.assertEqual(tell(desk, call), [number], call)
-        self.assertEqual(held(desk), before, call)
 
 
 class ARecord(Refusals):
